@@ -1,0 +1,1 @@
+"""Tidehall: ports. The calls are answered by tideports.harbour.answers."""
