@@ -1,7 +1,11 @@
-"""What the tests share: making calls, and a second judge of texts that is written from the document alone."""
+"""What the tests share: making calls, a second judge of texts and a second reckoning of heights, both written from
+the document alone, and drawn skies and ports."""
 
+import random
 import re
 import unittest
+from fractions import Fraction
+from math import floor, isqrt
 
 from tideports.harbour import answers
 
@@ -41,6 +45,22 @@ def port(text):
 
 def wave(index):
     return [4, index]
+
+
+def height(minute):
+    return [5, minute]
+
+
+def heights(minute, count):
+    return [6, minute, count]
+
+
+def most(minute, count):
+    return [7, minute, count]
+
+
+def first(minute, count, bound, up):
+    return [8, minute, count, bound, up]
 
 
 def split(told):
@@ -202,7 +222,7 @@ NUMBER_WORD = r"-?\d+(?:\.\d+)?"
 NAME_WORD = "[A-Za-z][A-Za-z0-9]*"
 TERM_WORDS = rf"(?:\d+ )?{NAME_WORD}"
 SUM_WORDS = rf"(?:- )?{TERM_WORDS}(?: [+-] {TERM_WORDS})*"
-WAVE_WORDS = re.compile(rf"wave ({NAME_WORD}) ({SUM_WORDS})(?: turn \d+)?"
+WAVE_WORDS = re.compile(rf"wave ({NAME_WORD}) ({SUM_WORDS})(?: turn (\d+))?"
                         rf"((?: factor {NUMBER_WORD} {SUM_WORDS})*)((?: shift {NUMBER_WORD} {SUM_WORDS})*)\n")
 
 
@@ -216,7 +236,7 @@ def sums_of_wave(line, place):
     found = WAVE_WORDS.fullmatch(line)
     names = names_of_sum(found.group(2), place + found.start(2))
     numbers = []
-    for group, word in ((3, "factor"), (4, "shift")):
+    for group, word in ((4, "factor"), (5, "shift")):
         for part in re.finditer(rf" {word} ({NUMBER_WORD}) ({SUM_WORDS})", found.group(group)):
             names += names_of_sum(part.group(2), place + found.start(group) + part.start(2))
             if word == "factor":
@@ -284,3 +304,252 @@ def told_of_port(text, over):
         faults += [(found.start(2), 4)] if int(found.group(2).partition(".")[0]) >= 360 else []
         names.append(name)
     return [-5, min(faults)[1], min(faults)[0]] if faults else [0]
+
+
+# Heights once more, in exact fractions.
+
+FIRST_MINUTE = -2 ** 31
+LAST_MINUTE = 2 ** 31 - 1
+TURN = 2 ** 32
+TRUE_BITS = 400
+
+
+def halved_rays():
+    """The true cosines and sines of 2^-1 to 2^-32 of a turn, 2^400 times, by halving angles: no series, no pi."""
+    one = 2 ** TRUE_BITS
+    rays = [(-one, 0), (0, one)]
+    while len(rays) < 32:
+        cosine, sine = rays[-1]
+        half_cosine = isqrt((one + cosine) * one // 2)
+        rays.append((half_cosine, sine * one // (2 * half_cosine)))
+    return rays
+
+
+HALVED_RAYS = halved_rays()
+COSINES = {}
+
+
+def true_cosine(angle):
+    """2^400 times the cosine of angle / 2^32 of a turn, off by less than 2^60."""
+    cosine, sine = 2 ** TRUE_BITS, 0
+    for place, (other_cosine, other_sine) in enumerate(HALVED_RAYS):
+        if angle >> (31 - place) & 1:
+            cosine, sine = ((cosine * other_cosine - sine * other_sine) >> TRUE_BITS,
+                            (sine * other_cosine + cosine * other_sine) >> TRUE_BITS)
+    return cosine
+
+
+def nearest_cosine(angle):
+    """The whole number nearest to 2^30 times the cosine."""
+    if angle not in COSINES:
+        twice = true_cosine(angle) >> (TRUE_BITS - 31 - 100)
+        if (twice + 1) % 2 ** 101 in (2 ** 100, 2 ** 100 + 1, 2 ** 100 + 2):
+            raise AssertionError(f"too near to a middle: {angle}")
+        COSINES[angle] = (twice + 2 ** 100) >> 101
+    return COSINES[angle]
+
+
+def nearest_sine(angle):
+    return nearest_cosine((angle - TURN // 4) % TURN)
+
+
+def rounded(number):
+    """The nearest whole number, a tie to the greater."""
+    return floor(number + Fraction(1, 2))
+
+
+def cut(turns):
+    return floor(turns * TURN) % TURN
+
+
+def steadied(minute):
+    return 32768 * floor(Fraction(minute, 32768)) + 16384
+
+
+def terms_of(words):
+    """The names of a SUM, each with its signed count before it."""
+    terms = []
+    sign, count = 1, 1
+    for word in words.split():
+        if word in ("+", "-"):
+            sign = 1 if word == "+" else -1
+        elif word.isdigit():
+            count = int(word)
+        else:
+            terms.append((sign * count, word))
+            count = 1
+    return terms
+
+
+class SecondSky:
+    """A right sky's text, in exact fractions."""
+
+    def __init__(self, text):
+        self.angles, self.waves, self.sums = {}, {}, {}
+        for line in text.splitlines(keepends=True):
+            word, name, rest = line.rstrip("\n").split(" ", 2)
+            if word == "angle":
+                self.angles[name] = [Fraction(number) for number in rest.split()]
+            elif word == "sum":
+                self.sums[name] = terms_of(rest)
+            else:
+                self.waves[name] = self.wave_of(line)
+        self.numbers = [line.split()[1] for line in text.splitlines() if not line.startswith("angle ")]
+
+    @staticmethod
+    def wave_of(line):
+        found = WAVE_WORDS.fullmatch(line)
+        parts = []
+        for group, word in ((4, "factor"), (5, "shift")):
+            parts.append([(Fraction(part.group(1)), terms_of(part.group(2))) for part in
+                          re.finditer(rf" {word} ({NUMBER_WORD}) ({SUM_WORDS})", found.group(group))])
+        return terms_of(found.group(2)), int(found.group(3) or 0), *parts
+
+    def degrees(self, terms, minute):
+        return sum(count * (self.angles[name][0] + self.angles[name][1] * minute / 60) for count, name in terms)
+
+    def angle(self, terms, minute):
+        return cut(self.degrees(terms, minute) / 360)
+
+    def argument(self, name, minute):
+        """In degrees, exactly."""
+        if name in self.sums:
+            return sum(count * self.argument(each, minute) for count, each in self.sums[name])
+        return self.degrees(self.waves[name][0], minute) + self.waves[name][1]
+
+    def factor(self, name, minute):
+        if name not in self.sums:
+            return rounded(2 ** 30 + sum(number * nearest_cosine(self.angle(terms, minute))
+                                         for number, terms in self.waves[name][2]))
+        product = Fraction(2 ** 30)
+        for count, each in self.sums[name]:
+            product *= Fraction(self.factor(each, minute), 2 ** 30) ** abs(count)
+        return rounded(product)
+
+    def shift(self, name, minute):
+        """In degrees, exactly."""
+        if name in self.sums:
+            return sum(count * self.shift(each, minute) for count, each in self.sums[name])
+        return sum(number * Fraction(nearest_sine(self.angle(terms, minute)), 2 ** 30)
+                   for number, terms in self.waves[name][3])
+
+
+class SecondPort:
+    """A right port's text over a right sky's, in exact fractions."""
+
+    def __init__(self, over, text):
+        self.sky = SecondSky(over)
+        level, *waves = text.splitlines()
+        self.level = Fraction(level.split()[1]) * 10000
+        self.waves = [(line.split()[1], Fraction(line.split()[2]) * 10000, Fraction(line.split()[3])) for line in waves]
+        self.steady = {}
+
+    def steady_of(self, name, minute):
+        """A wave's factor and shift at a minute."""
+        if (name, minute) not in self.steady:
+            self.steady[name, minute] = (self.sky.factor(name, minute), self.sky.shift(name, minute))
+        return self.steady[name, minute]
+
+    def exact(self, minute):
+        """The exact sum."""
+        total = self.level
+        for name, size, lag in self.waves:
+            factor, shift = self.steady_of(name, steadied(minute))
+            angle = cut((self.sky.argument(name, minute) + shift - lag) / 360)
+            total += size * factor * nearest_cosine(angle) / 2 ** 60
+        return total
+
+    def height(self, minute):
+        return rounded(self.exact(minute))
+
+    def printed(self):
+        lines = ["level " + plain_decimal(self.level, 4)]
+        for name, size, lag in self.waves:
+            lines.append(f"wave {name} {plain_decimal(size, 4)} {plain_decimal(lag * 1000, 3)}")
+        return "".join(line + "\n" for line in lines)
+
+
+def plain_decimal(value, behind):
+    """A number in units of the last place behind the point, as printed."""
+    before, rest = divmod(abs(int(value)), 10 ** behind)
+    text = f"{before}." + f"{rest:0{behind}}".rstrip("0")
+    return ("-" if value < 0 else "") + text.rstrip(".")
+
+
+class Drawer:
+    """Draws right skies with every part of the grammar, and right ports over them; the same for the same seed."""
+
+    def __init__(self, seed):
+        self.chance = random.Random(seed)
+
+    def number(self, most_units, behind, signed=True):
+        """A number of at most so many units of the last place that it may have behind the point."""
+        places = self.chance.choice((0, 1, behind // 2, behind, behind))
+        step = 10 ** (behind - places)
+        units = self.chance.randint(0, most_units // step)
+        digits = str(units).zfill(places + 1)
+        text = digits[:-places] + "." + digits[-places:] if places else digits
+        return self.chance.choice(("", "-" if signed else "")) + text
+
+    def terms(self, names, counts):
+        """A SUM with these counts."""
+        text = ""
+        for place, count in enumerate(counts):
+            sign = self.chance.choice("+-")
+            text += f" {sign} " if place else self.chance.choice(("", "- "))
+            text += (f"{count} " if count > 1 or self.chance.random() < 0.2 else "") + self.chance.choice(names)
+        return text
+
+    def counts(self, most_terms):
+        return [self.chance.choice((1, 1, 2, self.chance.randint(1, 15))) for each in range(most_terms)]
+
+    def wave(self, angles):
+        text = self.terms(angles, self.counts(self.chance.choice((1, 2, 4, 8))))
+        text += self.chance.choice(("", " turn 90", " turn 180", " turn 270"))
+        factors = self.chance.choice((0, 1, 2, 8))
+        for each in range(factors):
+            number = self.number((10 ** 12 - 1) // factors, 12)
+            text += f" factor {number} " + self.terms(angles, self.counts(self.chance.choice((1, 2, 8))))
+        for each in range(self.chance.choice((0, 1, 2, 8))):
+            number = self.number(self.chance.choice((999 * 10 ** 12, 30 * 10 ** 12, 10 ** 6)), 12)
+            text += f" shift {number} " + self.terms(angles, self.counts(self.chance.choice((1, 2, 8))))
+        return text
+
+    def sum_counts(self):
+        """At most 8 counts, together at most 12."""
+        left = self.chance.randint(1, 12)
+        counts = []
+        while left and len(counts) < 8:
+            counts.append(self.chance.randint(1, left))
+            left -= counts[-1]
+        return counts
+
+    def sky(self, most_waves=5):
+        """A right sky's text."""
+        angles = [f"a{number}" for number in range(self.chance.choice((1, 2, 5, 16)))]
+        text = ""
+        for name in angles:
+            rate = self.number(self.chance.choice((10 ** 15 - 1, 10 ** 12)), 12)
+            text += f"angle {name} {self.number(10 ** 15 - 1, 12)} {rate}\n"
+        waves = [f"w{number}" for number in range(self.chance.randint(1, most_waves))]
+        for name in waves:
+            text += f"wave {name} {self.wave(angles)}\n"
+        for number in range(self.chance.randint(0, most_waves)):
+            text += f"sum s{number} {self.terms(waves, self.sum_counts())}\n"
+        return text
+
+    def port(self, over):
+        """A right port's text over this sky, in any order."""
+        names = [line.split()[1] for line in over.splitlines() if not line.startswith("angle ")]
+        self.chance.shuffle(names)
+        text = f"level {self.number(999999, 4)}\n"
+        for name in names[:self.chance.randint(1, len(names))]:
+            text += f"wave {name} {self.number(999999, 4, False)} {self.number(359999, 3, False)}\n"
+        return text
+
+    def minute(self):
+        """A minute, often one that the document names or beside such a one."""
+        near = self.chance.choice((FIRST_MINUTE, LAST_MINUTE, 0, 32768 * self.chance.randint(-65536, 65535),
+                                   self.chance.randint(FIRST_MINUTE, LAST_MINUTE),
+                                   self.chance.randint(-10 ** 6, 10 ** 6)))
+        return min(max(near + self.chance.randint(-2, 2), FIRST_MINUTE), LAST_MINUTE)

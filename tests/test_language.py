@@ -39,6 +39,9 @@ WALKED = {"zip", "enumerate", "reversed", "range"}
 WALKED_METHODS = {"items", "keys", "values"}
 WALKERS = {"list", "tuple", "dict", "sorted", "sum", "any", "all", "enumerate", "zip", "min", "max"}
 NEVER = set("""register mro elements open input version_info with_traceback add_note format format_map""".split())
+NOT_AS_NAMES = set("""attrgetter breakpoint builtins compile copyright credits delattr dir eval exec exit gc getattr
+                   globals hasattr help id importlib license locals methodcaller os quit setattr super type vars
+                   sys""".split())
 FRAMES = re.compile("(f|tb|co|gi|cr|ag)_[a-z]+")
 WORDS = re.compile(r"\b(type|typing|typing_extensions|enum|Enum|IntEnum|StrEnum|Flag|IntFlag|Generic|Protocol|ABC|"
                    r"ABCMeta|namedtuple|NamedTuple|TypedDict|TYPE_CHECKING|abstractmethod)\b|"
@@ -257,6 +260,7 @@ class File:
 
     def look_Name(self, node):
         self.look_name(node.id, node)
+        self.look_bare_name(node.id, node)
         parent = self.parents[node]
         called = isinstance(parent, ast.Call) and parent.func is node
         if node.id in CALLED and isinstance(node.ctx, ast.Load) and not called:
@@ -272,8 +276,14 @@ class File:
             if not isinstance(parent, ways) and not (asked and parent.func.id == "isinstance"):
                 self.tell("L18", node)
 
+    def look_bare_name(self, name, node):
+        """A name that stands by itself, not behind a point."""
+        if name in NOT_AS_NAMES:
+            self.tell("L17", node)
+
     def look_arg(self, node):
         self.look_name(node.arg, node)
+        self.look_bare_name(node.arg, node)
 
     def look_Attribute(self, node):
         self.look_name(node.attr, node) if node.attr != "__init__" else None
@@ -437,7 +447,8 @@ class Language(unittest.TestCase):
             "L14": ("# \u00e9\n", "def f():\n\treturn 1\n"),
             "L15": ("x = 1\nx = 2\n", "def f(id):\n    return id\n", "def f():\n    sum = 1\n    return sum\n",
                     "x = 1\n\n\ndef f():\n    x = 2\n    return x\n"),
-            "L17": ("# a type\n", "def f(x):\n    return x.open\n", "x = 'my_dataclasses'\n"),
+            "L17": ("# a type\n", "def f(x):\n    return x.open\n", "x = 'my_dataclasses'\n",
+                    "def f():\n    os = 1\n    return os\n", "def f(gc):\n    return gc\n"),
             "L18": ("class A:\n    pass\n\n\ndef f():\n    return [A]\n",
                     "class A:\n    def b(self):\n        pass\n\n    def b(self):\n        pass\n",
                     "class A:\n    def b(self):\n        pass\n\n\nclass C:\n    def __init__(self):\n"
